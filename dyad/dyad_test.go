@@ -113,67 +113,9 @@ func show(list []api.Dyad) string {
 	return text
 }
 
-// someNumber makes one of at most four words, with an exponent near 0.
-func someNumber(s *probe.Source) api.Dyad {
-	return api.Dyad{Neg: s.Word()%2 == 0, Abs: s.Natural(s.Below(5)), Exp: s.Below(400) - 200}
-}
-
-// numbers are edges, forms that are not the one form, and numbers without a pattern; all of them right.
-func numbers() []api.Dyad {
-	list := []api.Dyad{
-		{}, {Neg: true}, {Abs: api.Nat{0, 0}, Exp: 7}, {Neg: true, Abs: api.Nat{0}, Exp: -api.MaxExp}, {Exp: api.MaxExp},
-		{Abs: api.Nat{1}}, {Neg: true, Abs: api.Nat{1}}, {Abs: api.Nat{12}}, {Abs: api.Nat{12, 0}, Exp: -2}, {Abs: api.Nat{3}, Exp: 2},
-		{Abs: api.Nat{0, 1}}, {Abs: api.Nat{0, 1}, Exp: -64}, {Neg: true, Abs: api.Nat{0, 6, 0}, Exp: -65},
-		{Abs: api.Nat{11}}, {Neg: true, Abs: api.Nat{11}}, {Abs: api.Nat{3}, Exp: -1}, {Neg: true, Abs: api.Nat{3}, Exp: -1},
-		{Abs: api.Nat{all}}, {Abs: api.Nat{all, all}, Exp: -64}, {Neg: true, Abs: api.Nat{all}, Exp: -64}, {Abs: api.Nat{1}, Exp: -64},
-		{Abs: api.Nat{1, 1}, Exp: -64}, {Abs: api.Nat{1 << 63}, Exp: -63}, {Abs: api.Nat{1<<63 - 1}},
-	}
-	s := probe.Source(1)
-	for range 40 {
-		list = append(list, someNumber(&s))
-	}
-	return list
-}
-
-// greatOnes are right numbers at the limits of size and exponent.
-func greatOnes() []api.Dyad {
-	var list []api.Dyad
-	for _, neg := range []bool{false, true} {
-		for _, exp := range []int{-api.MaxExp, -1, 0, api.MaxExp} {
-			list = append(list,
-				api.Dyad{Neg: neg, Abs: probe.Filled(api.MaxLimbs, all), Exp: exp},
-				api.Dyad{Neg: neg, Abs: append(probe.Filled(api.MaxLimbs, all), 0, 0), Exp: exp},
-				api.Dyad{Neg: neg, Abs: probe.Power2(64*api.MaxLimbs - 1), Exp: exp},
-				api.Dyad{Neg: neg, Abs: append(append(api.Nat{1}, probe.Filled(api.MaxLimbs-2, 0)...), 1<<63), Exp: exp},
-				api.Dyad{Neg: neg, Abs: api.Nat{1}, Exp: exp},
-				api.Dyad{Neg: neg, Abs: api.Nat{2}, Exp: exp},
-				api.Dyad{Neg: neg, Abs: probe.Filled(api.MaxLimbs/2, all), Exp: exp},
-			)
-		}
-	}
-	return list
-}
-
-// wrongOnes are not right, by Abs, by Exp, by both.
-func wrongOnes() []api.Dyad {
-	return []api.Dyad{
-		{Abs: append(probe.Filled(api.MaxLimbs, 0), 1)},
-		{Abs: probe.Filled(api.MaxLimbs+1, all), Exp: -5},
-		{Abs: api.Nat{1}, Exp: api.MaxExp + 1},
-		{Abs: api.Nat{1}, Exp: -api.MaxExp - 1},
-		{Neg: true, Abs: probe.Power2(80), Exp: -api.MaxExp - 1},
-		{Exp: api.MaxExp + 1},
-		{Exp: -api.MaxExp - 1},
-		{Abs: api.Nat{1}, Exp: math.MaxInt},
-		{Abs: api.Nat{2}, Exp: math.MaxInt},
-		{Abs: api.Nat{1}, Exp: math.MinInt},
-		{Abs: probe.Filled(api.MaxLimbs+1, 1), Exp: math.MinInt},
-	}
-}
-
 // P4.1
 func TestForms(t *testing.T) {
-	for _, d := range slices.Concat(numbers(), greatOnes(), wrongOnes()) {
+	for _, d := range slices.Concat(probe.Numbers(), probe.GreatNumbers(), probe.WrongNumbers()) {
 		want := api.OK
 		if !right(d) {
 			want = api.ErrRange
@@ -230,19 +172,19 @@ func checkTwo(t *testing.T, a, b api.Dyad) {
 
 // P4.3, P4.4
 func TestReckon(t *testing.T) {
-	for _, a := range numbers() {
-		for _, b := range numbers() {
+	for _, a := range probe.Numbers() {
+		for _, b := range probe.Numbers() {
 			checkTwo(t, a, b)
 		}
 	}
-	great := greatOnes()
+	great := probe.GreatNumbers()
 	for _, a := range great {
 		for _, b := range great {
 			checkTwo(t, a, b)
 		}
 	}
-	for _, a := range wrongOnes() {
-		for _, b := range append(wrongOnes(), api.Dyad{}, dyad.Int(3), great[0]) {
+	for _, a := range probe.WrongNumbers() {
+		for _, b := range append(probe.WrongNumbers(), api.Dyad{}, dyad.Int(3), great[0]) {
 			checkTwo(t, a, b)
 			checkTwo(t, b, a)
 		}
@@ -287,7 +229,7 @@ func TestRoom(t *testing.T) {
 // P4.3
 func TestSignsAndShifts(t *testing.T) {
 	shifts := []int{0, 1, -1, 64, -64, 1000, api.MaxExp, -api.MaxExp, 2 * api.MaxExp, -2 * api.MaxExp}
-	for _, d := range slices.Concat(numbers(), greatOnes(), wrongOnes()) {
+	for _, d := range slices.Concat(probe.Numbers(), probe.GreatNumbers(), probe.WrongNumbers()) {
 		v := valueOf(d)
 		got, why := dyad.Neg(d)
 		expect(t, "Neg", got, why, v.negated(), d)
@@ -307,7 +249,7 @@ func TestSignsAndShifts(t *testing.T) {
 
 // P4.4
 func TestSizeAndTop(t *testing.T) {
-	for _, d := range slices.Concat(numbers(), greatOnes(), wrongOnes()) {
+	for _, d := range slices.Concat(probe.Numbers(), probe.GreatNumbers(), probe.WrongNumbers()) {
 		size, why := dyad.Size(d)
 		top, whyTop := dyad.Top(d)
 		o := valueOf(d).odd()
@@ -346,7 +288,7 @@ func cutValue(v scaled, p int, up bool) scaled {
 
 // P4.5, P4.9
 func TestCut(t *testing.T) {
-	for _, d := range slices.Concat(numbers(), greatOnes(), wrongOnes()) {
+	for _, d := range slices.Concat(probe.Numbers(), probe.GreatNumbers(), probe.WrongNumbers()) {
 		bits := valueOf(d).odd().whole.BitLen()
 		for _, p := range []int{1, 2, 3, 53, 63, 64, 65, bits - 1, bits, bits + 1, math.MaxInt} {
 			for _, up := range []bool{false, true} {
@@ -395,7 +337,7 @@ func bitsOf(n int64) int { return scaled{big.NewInt(n), 0}.odd().whole.BitLen() 
 
 // P4.5, P4.10
 func TestFloor(t *testing.T) {
-	list := slices.Concat(numbers(), greatOnes(), wrongOnes())
+	list := slices.Concat(probe.Numbers(), probe.GreatNumbers(), probe.WrongNumbers())
 	for n := int64(-70); n <= 70; n++ {
 		d := dyad.Int(n)
 		d.Exp -= 3
@@ -437,7 +379,7 @@ func TestRing(t *testing.T) {
 	sub := func(a, b api.Dyad) api.Dyad { c, _ := dyad.Sub(a, b); return c }
 	mul := func(a, b api.Dyad) api.Dyad { c, _ := dyad.Mul(a, b); return c }
 	for range 1000 {
-		a, b, c := someNumber(&s), someNumber(&s), someNumber(&s)
+		a, b, c := s.Number(), s.Number(), s.Number()
 		canon, _ := dyad.Canon(a)
 		n := s.Below(1000) - 500
 		shifted, _ := dyad.Shift(a, n)

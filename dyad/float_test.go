@@ -3,7 +3,6 @@ package dyad_test
 import (
 	"math"
 	"math/big"
-	"slices"
 	"testing"
 
 	"ulp/api"
@@ -14,27 +13,8 @@ import (
 
 const (
 	minusZero = uint64(1) << 63
-	greatest  = uint64(0x7fefffffffffffff)
 	leastNorm = uint64(0x0010000000000000)
 )
-
-// floats are finite ones: edges, the neighbourhood of powers of 2, and some without a pattern.
-func floats() []uint64 {
-	list := []uint64{0, 1, 2, 3, 0x000fffffffffffff, 0x0008000000000000, leastNorm, leastNorm + 1, greatest, greatest - 1, 0x3ff0000000000000, 0x3ff8000000000000}
-	for e := uint64(0); e < 2047; e += 31 {
-		list = append(list, e<<52, e<<52+1, e<<52+0x000fffffffffffff)
-	}
-	s := probe.Source(9)
-	for range 300 {
-		if x := s.Word() &^ minusZero; x <= greatest {
-			list = append(list, x)
-		}
-	}
-	for _, x := range slices.Clone(list) {
-		list = append(list, x|minusZero)
-	}
-	return list
-}
 
 // floatValue is a finite binary64, at the exponent of the least one.
 func floatValue(x uint64) scaled {
@@ -45,7 +25,7 @@ func floatValue(x uint64) scaled {
 
 // P4.2, P4.8: there and back; only -0 comes back as 0.
 func TestFromAndTo(t *testing.T) {
-	for _, x := range floats() {
+	for _, x := range probe.Floats() {
 		d, why := dyad.From(x)
 		expect(t, "From", d, why, floatValue(x))
 		back, ok := dyad.To(d)
@@ -68,7 +48,7 @@ func TestFromNone(t *testing.T) {
 
 // P4.2: whatever its form, a number is told if a binary64 is it.
 func TestToAnyForm(t *testing.T) {
-	for _, x := range floats() {
+	for _, x := range probe.Floats() {
 		d, _ := dyad.From(x)
 		for _, n := range []int{1, 11, 64, 70} {
 			form := api.Dyad{Neg: d.Neg, Abs: valueWords(new(big.Int).Lsh(new(big.Int).Abs(valueOf(d).whole), uint(n))), Exp: d.Exp - n}
@@ -96,7 +76,7 @@ func valueWords(n *big.Int) api.Nat {
 
 // P4.2: what no binary64 is: too many bits, too small, too great, not right.
 func TestToNone(t *testing.T) {
-	list := append(wrongOnes(), []api.Dyad{
+	list := append(probe.WrongNumbers(), []api.Dyad{
 		{Abs: api.Nat{1}, Exp: -1075},
 		{Abs: api.Nat{3}, Exp: -1075},
 		{Abs: api.Nat{1<<53 + 1}},
@@ -128,7 +108,7 @@ func TestToNone(t *testing.T) {
 
 // P4.8: numbers stand as bits.Less has them.
 func TestOrderOfFloats(t *testing.T) {
-	list := floats()
+	list := probe.Floats()
 	for i := 0; i < len(list); i += 3 {
 		for j := 0; j < len(list); j += 7 {
 			x, y := list[i], list[j]

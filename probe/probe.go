@@ -1,4 +1,4 @@
-// Package probe has what the tests of several layers need: words without a pattern, naturals of a pattern, and a look whether lists share memory. No layer calls it.
+// Package probe has what the tests of several layers need: words without a pattern, naturals of a pattern, numbers at the edges, and a look whether lists share memory. No layer calls it.
 package probe
 
 import (

@@ -6,6 +6,7 @@ import (
 	"testing"
 
 	"ulp/api"
+	"ulp/dyad"
 	"ulp/probe"
 )
 
@@ -41,6 +42,24 @@ func TestPatterns(t *testing.T) {
 		}
 		if sum.Cmp(new(big.Int).Lsh(big.NewInt(1), uint(n))) != 0 {
 			t.Errorf("Power2(%d) = %x", n, sum)
+		}
+	}
+}
+
+func TestNumbers(t *testing.T) {
+	for _, d := range slices.Concat(probe.Numbers(), probe.GreatNumbers()) {
+		if why := dyad.Check(d); why != api.OK {
+			t.Errorf("%d words, exponent %d: error %d", len(d.Abs), d.Exp, why)
+		}
+	}
+	for _, d := range probe.WrongNumbers() {
+		if why := dyad.Check(d); why != api.ErrRange {
+			t.Errorf("%d words, exponent %d: error %d, want ErrRange", len(d.Abs), d.Exp, why)
+		}
+	}
+	for _, x := range probe.Floats() {
+		if _, why := dyad.From(x); why != api.OK {
+			t.Errorf("%x is not finite", x)
 		}
 	}
 }
