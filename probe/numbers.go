@@ -19,6 +19,13 @@ func (s *Source) Number() api.Dyad {
 	return api.Dyad{Neg: s.Word()%2 == 0, Abs: s.Natural(s.Below(5)), Exp: s.Below(400) - 200}
 }
 
+// Float is one from 2^exp to below 2^(exp + 1) in amount, exp that of a normal binary64; it has few bits or many.
+func (s *Source) Float(exp int) float64 {
+	w := s.Word()
+	fraction := w >> 12 >> s.Below(53) << s.Below(53) & (1<<52 - 1)
+	return math.Float64frombits(w&minusZero | uint64(1023+exp)<<52 | fraction)
+}
+
 // Numbers are edges, forms that are not the one form, and numbers without a pattern; all of them right.
 func Numbers() []api.Dyad {
 	list := []api.Dyad{

@@ -1,6 +1,7 @@
 package probe_test
 
 import (
+	"math"
 	"math/big"
 	"slices"
 	"testing"
@@ -21,6 +22,10 @@ func TestSource(t *testing.T) {
 		same = same && w == third.Word()
 		if n := third.Below(7); n < 0 || n >= 7 {
 			t.Error("Below(7):", n)
+		}
+		exp := third.Below(2046) - 1022
+		if x := third.Float(exp); math.Ilogb(x) != exp {
+			t.Errorf("Float(%d) = %x", exp, x)
 		}
 	}
 	if same {
