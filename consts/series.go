@@ -42,7 +42,7 @@ var recipes = [api.ConstCount]recipe{
 // enclosed is a known constant in units of 2^-w, off by no more units than there are terms, and a few. It has 40 bits at least.
 func enclosed(k api.ConstKind, w int) fixed.Span {
 	if over := recipes[k].over; over != api.ConstNone {
-		return reciprocal(enclosed(over, w))
+		return reciprocal(enclosed(over, w), w)
 	}
 	var sums [2]api.Nat // of what is added, of what is taken off
 	var units uint64
@@ -50,17 +50,13 @@ func enclosed(k api.ConstKind, w int) fixed.Span {
 		units += p.sumUp(w, &sums)
 	}
 	middle, away := fixed.Less(sums[0], sums[1]), nat.Of(units)
-	return fixed.Span{Lo: fixed.Less(middle, away), Hi: fixed.Plus(middle, away), Exp: -w}
+	return fixed.Units(fixed.Less(middle, away), fixed.Plus(middle, away), w)
 }
 
-// reciprocal is 1 divided by what lies in a span, in the same units.
-func reciprocal(v fixed.Span) fixed.Span {
-	one := fixed.One(-2 * v.Exp)
-	return fixed.Span{
-		Lo:  fixed.Over(one, v.Hi),
-		Hi:  fixed.Plus(fixed.Over(one, v.Lo), nat.Of(1)),
-		Exp: v.Exp,
-	}
+// reciprocal is 1 divided by what lies in a span of units of 2^-w, in the same units.
+func reciprocal(v fixed.Span, w int) fixed.Span {
+	one := fixed.One(2 * w)
+	return fixed.Units(fixed.Over(one, v.Hi.Abs), fixed.Plus(fixed.Over(one, v.Lo.Abs), nat.Of(1)), w)
 }
 
 // sumUp adds the terms to the two sums, and answers by how many units they are off at most.

@@ -112,6 +112,42 @@ func TestRising(t *testing.T) {
 	}
 }
 
+// passing are two amounts next to one another of which e to the power of the one, less 1, is told to p bits as up to below 2^k, that of the other one as up to more.
+func passing(t *testing.T, k, p int) (below, above api.Dyad) {
+	t.Helper()
+	below, above = api.Dyad{}, of(1, 7)
+	for range p + 80 {
+		middle, _ := dyad.Shift(sum(below, above), -1)
+		v, why := expcore.Expm1(middle, p)
+		if why != api.OK {
+			t.Fatalf("Expm1(%s, %d): error %d", show(middle), p, why)
+		}
+		if order, _ := dyad.Cmp(v.Hi, of(1, k)); order < 0 {
+			below = middle
+		} else {
+			above = middle
+		}
+	}
+	return below, above
+}
+
+// P10.5: where one of the ends gets a bit more, neither end falls, of an amount and of less that.
+func TestRisingPastPowers(t *testing.T) {
+	for _, p := range []int{api.MinBits, 9, 10, 33, 64, 150} {
+		for k := -15; k < 100; k += 1 + p/8 {
+			below, above := passing(t, k, p)
+			for _, pair := range [][2]api.Dyad{{below, above}, {less(above), less(below)}} {
+				a, b := exp(t, pair[0], p), exp(t, pair[1], p)
+				lo, _ := dyad.Cmp(a.Lo, b.Lo)
+				hi, _ := dyad.Cmp(a.Hi, b.Hi)
+				if lo > 0 || hi > 0 {
+					t.Errorf("Exp to %d bits falls at %s, near 2^%d", p, show(pair[1]), k)
+				}
+			}
+		}
+	}
+}
+
 // P10.6
 func TestMoreBits(t *testing.T) {
 	bits := []int{8, 9, 31, 32, 33, 64, 100, 129, 500, 2048}

@@ -1,4 +1,4 @@
-// Package fixed reckons with naturals as numbers at a fixed point, in units of a power of 2, each a step up or down. It tells no errors: the layers whose series it sums see to it that all they hand in, and all that comes of it, stays far below the size at which nat refuses.
+// Package fixed reckons with naturals as numbers at a fixed point, in units of a power of 2, and with numbers of so many bits at any point, each rounded down or up. It tells no errors: the layers whose series it sums see to it that all they hand in, and all that comes of it, stays far below the size at which nat refuses.
 package fixed
 
 import (
@@ -43,14 +43,11 @@ func Shift(a api.Nat, n int) api.Nat {
 	return c
 }
 
-// ShiftUp is a times 2^n, n of either sign, rounded up.
-func ShiftUp(a api.Nat, n int) api.Nat {
+// shifted is a times 2^n, n of either sign, rounded down or up.
+func shifted(a api.Nat, n int, up bool) api.Nat {
 	if n >= 0 {
 		return Shift(a, n)
 	}
 	c, lost, _ := nat.Shr(a, -n)
-	if lost {
-		return Plus(c, nat.Of(1))
-	}
-	return c
+	return raised(c, up && lost)
 }

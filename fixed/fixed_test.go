@@ -8,8 +8,6 @@ import (
 	"ulp/api"
 	"ulp/dyad"
 	"ulp/fixed"
-	"ulp/ival"
-	"ulp/nat"
 	"ulp/probe"
 )
 
@@ -44,53 +42,38 @@ func TestShift(t *testing.T) {
 		{api.Nat{1}, -1, nil, api.Nat{1}}, {api.Nat{1}, -1000, nil, api.Nat{1}}, {api.Nat{all, all}, -64, api.Nat{all}, api.Nat{0, 1}}, {api.Nat{0, 7}, -64, api.Nat{7}, api.Nat{7}},
 	} {
 		expect(t, "Shift", fixed.Shift(c.a, c.n), c.down)
-		expect(t, "ShiftUp", fixed.ShiftUp(c.a, c.n), c.up)
+		for _, exp := range []int{0, 3, -200} {
+			x := fixed.Number{Abs: c.a, Exp: exp}
+			expect(t, "Units, down", x.Units(c.n-exp, false), c.down)
+			expect(t, "Units, up", x.Units(c.n-exp, true), c.up)
+		}
 	}
 }
 
 func TestSpans(t *testing.T) {
-	s := fixed.Span{Lo: api.Nat{5}, Hi: api.Nat{9}, Exp: -3}
-	if got := s.Times(fixed.Span{Lo: api.Nat{2}, Hi: api.Nat{3}, Exp: 1}); !reflect.DeepEqual(got, fixed.Span{Lo: api.Nat{10}, Hi: api.Nat{27}, Exp: -2}) {
-		t.Error("Times:", got)
+	s := fixed.Between(func(up bool) fixed.Number { return fixed.Number{Abs: api.Nat{13}, Exp: -2}.Cut(3, up) })
+	want := fixed.Span{Lo: fixed.Number{Abs: api.Nat{6}, Exp: -1}, Hi: fixed.Number{Abs: api.Nat{7}, Exp: -1}}
+	if !reflect.DeepEqual(s, want) || !reflect.DeepEqual(s, fixed.Units(api.Nat{6}, api.Nat{7}, 1)) {
+		t.Error("Between:", s)
 	}
-	for w, want := range map[int]fixed.Span{
-		5: s, 4: s, 3: {Lo: api.Nat{2}, Hi: api.Nat{5}, Exp: -2}, 2: {Lo: api.Nat{1}, Hi: api.Nat{3}, Exp: -1}, 1: {Hi: api.Nat{2}},
-	} {
-		if got := s.Cut(w); !reflect.DeepEqual(got, want) {
-			t.Errorf("Cut(%d) = %v, want %v", w, got, want)
-		}
-	}
-	if got := (fixed.Span{Exp: 7}).Cut(3); len(got.Lo) != 0 || len(got.Hi) != 0 {
-		t.Error("0, cut:", got)
-	}
-}
-
-// What is cut has all in it that was there, and few bits.
-func TestCutOutward(t *testing.T) {
-	s := probe.Source(1)
-	for range 300 {
-		lo := s.Natural(1 + s.Below(4))
-		was := fixed.Span{Lo: lo, Hi: fixed.Plus(lo, s.Natural(s.Below(3))), Exp: s.Below(100) - 50}
-		w := 1 + s.Below(300)
-		now := was.Cut(w)
-		inner, _ := was.Ival()
-		outer, why := now.Ival()
-		if why != api.OK || !ival.Within(inner, outer) {
-			t.Errorf("%v, cut to %d bits: %v", was, w, now)
-		}
-		if n, _ := nat.Len(now.Hi); n > w+1 {
-			t.Errorf("%v, cut to %d bits, has %d", was, w, n)
-		}
+	if !reflect.DeepEqual(s.End(false), want.Lo) || !reflect.DeepEqual(s.End(true), want.Hi) {
+		t.Error("End:", s.End(false), s.End(true))
 	}
 }
 
 func TestIval(t *testing.T) {
-	s := fixed.Span{Lo: api.Nat{4}, Hi: api.Nat{12}, Exp: -2}
+	s := fixed.Span{Lo: fixed.Number{Abs: api.Nat{4}, Exp: -2}, Hi: fixed.Number{Abs: api.Nat{24}, Exp: -3}}
 	v, why := s.Ival()
 	if want := (api.Ival{Lo: dyad.Int(1), Hi: dyad.Int(3)}); why != api.OK || !reflect.DeepEqual(v, want) {
 		t.Errorf("Ival = %v, error %d", v, why)
 	}
-	if !probe.Apart([]api.Nat{v.Lo.Abs, v.Hi.Abs}, s.Lo, s.Hi) {
+	if !probe.Apart([]api.Nat{v.Lo.Abs, v.Hi.Abs}, s.Lo.Abs, s.Hi.Abs) {
 		t.Error("the interval shares memory with the span")
+	}
+	for _, exp := range []int{-api.MaxExp - 1, api.MaxExp + 1} {
+		far := fixed.Span{Lo: fixed.Number{Abs: api.Nat{1}, Exp: exp}, Hi: fixed.Number{Abs: api.Nat{3}, Exp: exp}}
+		if v, why := far.Ival(); why != api.ErrMany || !reflect.DeepEqual(v, api.Ival{}) {
+			t.Errorf("exponent %d: %v, error %d", exp, v, why)
+		}
 	}
 }

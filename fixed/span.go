@@ -3,30 +3,34 @@ package fixed
 import (
 	"ulp/api"
 	"ulp/ival"
-	"ulp/nat"
 )
 
-// Span is all numbers from Lo to Hi, times 2^Exp. Unlike an interval's its ends have one exponent, and none is below 0: so whatever rises is reckoned end by end.
-type Span struct {
-	Lo, Hi api.Nat
-	Exp    int
+// Span is all numbers from Lo to Hi.
+type Span struct{ Lo, Hi Number }
+
+// Between lies between what one way makes of a number, all rounded down, and all rounded up: each end by itself, so that neither hangs on how many bits the other has.
+func Between(way func(up bool) Number) Span { return Span{Lo: way(false), Hi: way(true)} }
+
+// Units lies between two numbers of units of 2^-w.
+func Units(lo, hi api.Nat, w int) Span {
+	return Span{Lo: Number{Abs: lo, Exp: -w}, Hi: Number{Abs: hi, Exp: -w}}
 }
 
-// Times is the product.
-func (s Span) Times(other Span) Span {
-	return Span{Lo: Times(s.Lo, other.Lo), Hi: Times(s.Hi, other.Hi), Exp: s.Exp + other.Exp}
-}
-
-// Cut has ends of w bits, or fewer; an end that is rounded up to the next power of 2 has one more.
-func (s Span) Cut(w int) Span {
-	size, _ := nat.Len(s.Hi)
-	if size <= w {
-		return s
+// End is Hi, or Lo.
+func (s Span) End(up bool) Number {
+	if up {
+		return s.Hi
 	}
-	return Span{Lo: Shift(s.Lo, w-size), Hi: ShiftUp(s.Hi, w-size), Exp: s.Exp + size - w}
+	return s.Lo
 }
 
-// Ival is the span as an interval, in its one form.
+// Ival is the span as an interval, in its one form; ErrMany, if an end is out of bounds.
 func (s Span) Ival() (api.Ival, api.Errno) {
-	return ival.Canon(api.Ival{Lo: api.Dyad{Abs: s.Lo, Exp: s.Exp}, Hi: api.Dyad{Abs: s.Hi, Exp: s.Exp}})
+	v, why := ival.Canon(api.Ival{Lo: s.Lo.dyad(), Hi: s.Hi.dyad()})
+	if why != api.OK {
+		return api.Ival{}, api.ErrMany
+	}
+	return v, api.OK
 }
+
+func (x Number) dyad() api.Dyad { return api.Dyad{Abs: x.Abs, Exp: x.Exp} }
